@@ -205,7 +205,7 @@ func leastMultiple(numbers ...int) int {
 	return multiple
 }
 
-func greatestDivisor(a int, b int) int {
+func greatestDivisor[N int | int64](a N, b N) N {
 	for b != 0 {
 		a, b = b, a%b
 	}
