@@ -1,6 +1,7 @@
 package tests
 
 import (
+	"fmt"
 	"math"
 	"slices"
 	"strconv"
@@ -112,6 +113,14 @@ func someTasks(length int) []impl.Task {
 		list[i] = kinds[i%len(kinds)]
 	}
 	return list
+}
+
+// told writes tasks for a message, the first ones of too many.
+func told(list []impl.Task) string {
+	if len(list) <= 7 {
+		return fmt.Sprint(list)
+	}
+	return fmt.Sprintf("%v and %d more", list[:7], len(list)-7)
 }
 
 func sameTasks(a, b []impl.Task) bool { return slices.Equal(a, b) }

@@ -190,7 +190,7 @@ func TestSetValid(t *testing.T) {
 	}
 	for _, list := range invalidLists() {
 		if impl.SetValid(list) {
-			t.Errorf("SetValid accepts %d tasks: %.200v", len(list), list)
+			t.Errorf("SetValid accepts %d tasks: %s", len(list), told(list))
 		}
 	}
 }
@@ -216,7 +216,7 @@ func TestFormatSet(t *testing.T) {
 	}
 	for _, list := range invalidLists() {
 		if s := impl.FormatSet(list); s != "" {
-			t.Errorf("FormatSet(%.200v) = %q", list, s)
+			t.Errorf("FormatSet(%s) = %q", told(list), s)
 		}
 	}
 }
@@ -416,13 +416,13 @@ func TestHyperOfAllPeriods(t *testing.T) {
 func TestInvalidListsHaveNoOrderNoCriticalTasksAndNoHyper(t *testing.T) {
 	for _, list := range invalidLists() {
 		if got := impl.SortDue(list); len(got) != 0 {
-			t.Errorf("SortDue(%.200v) = %v", list, got)
+			t.Errorf("SortDue(%s) = %v", told(list), got)
 		}
 		if got := impl.CriticalOf(list); len(got) != 0 {
-			t.Errorf("CriticalOf(%.200v) = %v", list, got)
+			t.Errorf("CriticalOf(%s) = %v", told(list), got)
 		}
 		if n := impl.HyperOf(list); n != 0 {
-			t.Errorf("HyperOf(%.200v) = %d", list, n)
+			t.Errorf("HyperOf(%s) = %d", told(list), n)
 		}
 	}
 }

@@ -412,7 +412,7 @@ func TestInvalidListsHaveNoShares(t *testing.T) {
 	for _, list := range invalidLists() {
 		for _, s := range []impl.Share{impl.LowShare(list, false), impl.LowShare(list, true), impl.HighShare(list)} {
 			if s != (impl.Share{}) {
-				t.Errorf("a share of %.200v is %v", list, s)
+				t.Errorf("a share of %s is %v", told(list), s)
 			}
 		}
 	}
