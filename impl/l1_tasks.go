@@ -35,6 +35,14 @@ func TaskValid(t Task) bool {
 	return bounded && (t.Critical || t.Low == t.High)
 }
 
+// need returns the high need of a task or its low one.
+func (t Task) need(high bool) int {
+	if high {
+		return t.High
+	}
+	return t.Low
+}
+
 // FormatTask returns the text of a task.
 func FormatTask(t Task) string {
 	if !TaskValid(t) {
