@@ -8,20 +8,29 @@ import (
 	"loop.example/dualmodes/impl"
 )
 
-// ordersOf returns all orders of so many places, by the first number that differs: it counts
-// with as many digits as there are places, and keeps what has each digit once.
-func ordersOf(places int) [][]int {
+// sequencesOf returns all sequences of so many numbers from 0 on and below most, by the first number that differs: it counts with
+// these numbers as digits.
+func sequencesOf(length, most int) [][]int {
 	total := 1
-	for range places {
-		total *= places
+	for range length {
+		total *= most
 	}
-	var orders [][]int
+	var sequences [][]int
 	for n := range total {
-		order := make([]int, places)
-		for i := places - 1; i >= 0; i-- {
-			order[i] = n % places
-			n /= places
+		sequence := make([]int, length)
+		for i := length - 1; i >= 0; i-- {
+			sequence[i] = n % most
+			n /= most
 		}
+		sequences = append(sequences, sequence)
+	}
+	return sequences
+}
+
+// ordersOf returns all orders of so many places, by the first number that differs.
+func ordersOf(places int) [][]int {
+	var orders [][]int
+	for _, order := range sequencesOf(places, places) {
 		if isOrder(order, places) {
 			orders = append(orders, order)
 		}
