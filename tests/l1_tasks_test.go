@@ -1,9 +1,11 @@
 package tests
 
 import (
+	"fmt"
 	"math"
 	"slices"
 	"strings"
+	"sync"
 	"testing"
 
 	"loop.example/dualmodes/impl"
@@ -114,17 +116,17 @@ func TestFormatTask(t *testing.T) {
 }
 
 // tasksByText is what all valid tasks are, by their texts.
-func tasksByText(t *testing.T) map[string]impl.Task {
+var tasksByText = sync.OnceValue(func() map[string]impl.Task {
 	all := allTasks()
 	byText := map[string]impl.Task{}
 	for _, x := range all {
 		byText[textOf(x)] = x
 	}
 	if len(byText) != len(all) {
-		t.Fatalf("%d tasks have %d texts", len(all), len(byText))
+		panic(fmt.Sprintf("%d tasks have %d texts", len(all), len(byText)))
 	}
 	return byText
-}
+})
 
 // checkParseTask checks ParseTask of any text.
 func checkParseTask(t *testing.T, byText map[string]impl.Task, s string) {
@@ -136,14 +138,14 @@ func checkParseTask(t *testing.T, byText map[string]impl.Task, s string) {
 }
 
 func TestParseTaskReadsAllTextsBack(t *testing.T) {
-	byText := tasksByText(t)
+	byText := tasksByText()
 	for s := range byText {
 		checkParseTask(t, byText, s)
 	}
 }
 
 func TestParseTaskOfNearTexts(t *testing.T) {
-	byText := tasksByText(t)
+	byText := tasksByText()
 	for s := range byText {
 		nearTexts(s, "0129 /-", func(near string) { checkParseTask(t, byText, near) })
 	}
@@ -251,7 +253,7 @@ func checkParseSet(t *testing.T, byText map[string]impl.Task, s string) {
 
 func TestParseSetReadsTextsBack(t *testing.T) {
 	all := allTasks()
-	byText := tasksByText(t)
+	byText := tasksByText()
 	for i := range all {
 		var list []impl.Task
 		for length := 1; length <= 5; length++ {
@@ -267,7 +269,7 @@ func TestParseSetReadsTextsBack(t *testing.T) {
 }
 
 func TestParseSetOfNearTexts(t *testing.T) {
-	byText := tasksByText(t)
+	byText := tasksByText()
 	five := "1 every 10 by 9; 2/4 every 8; 1/1 every 12 by 9; 3 every 8; 1/20 every 20"
 	for _, s := range []string{"", "3 every 5", "1 every 4; 2/3 every 6", five, five + "; 1 every 2"} {
 		nearTexts(s, allBytes(), func(near string) { checkParseSet(t, byText, near) })

@@ -5,6 +5,7 @@ import (
 	"math"
 	"slices"
 	"strings"
+	"sync"
 	"testing"
 
 	"loop.example/dualmodes/impl"
@@ -311,8 +312,7 @@ func edgeJobs() []impl.Job {
 }
 
 // jobsByText is what all jobs that have a text are, by their texts.
-func jobsByText(t *testing.T) map[string]impl.Job {
-	t.Helper()
+var jobsByText = sync.OnceValue(func() map[string]impl.Job {
 	byText := map[string]impl.Job{}
 	for task := range 5 {
 		for at := range 201 {
@@ -322,10 +322,10 @@ func jobsByText(t *testing.T) map[string]impl.Job {
 		}
 	}
 	if len(byText) != 5*201*20 {
-		t.Fatalf("jobs have only %d texts", len(byText))
+		panic(fmt.Sprintf("jobs have only %d texts", len(byText)))
 	}
 	return byText
-}
+})
 
 // checkParseJobs checks ParseJobs of any text, by the texts that jobs have.
 func checkParseJobs(t *testing.T, byText map[string]impl.Job, s string) {
@@ -347,7 +347,7 @@ func checkParseJobs(t *testing.T, byText map[string]impl.Job, s string) {
 }
 
 func TestTextOfEachJob(t *testing.T) {
-	for text, j := range jobsByText(t) {
+	for text, j := range jobsByText() {
 		if s := impl.FormatJobs([]impl.Job{j}); s != text {
 			t.Errorf("FormatJobs(%v) = %q, not %q", j, s, text)
 		}
@@ -399,7 +399,7 @@ func manyJobs(length int) []impl.Job {
 }
 
 func TestTextsOfManyJobs(t *testing.T) {
-	byText := jobsByText(t)
+	byText := jobsByText()
 	for length := range 130 {
 		jobs := manyJobs(length)
 		checkTextAndNeeds(t, jobs)
@@ -429,7 +429,7 @@ func TestTextsOfManyJobs(t *testing.T) {
 }
 
 func TestParseJobsOfNearTexts(t *testing.T) {
-	byText := jobsByText(t)
+	byText := jobsByText()
 	for _, s := range []string{"", "0@0:1", "4@200:20", "0@0:2 1@0:1 0@10:4", "3@100:10 0@19:9", "1@1:1 1@1:1"} {
 		checkParseJobs(t, byText, s)
 		nearTexts(s, allBytes(), func(near string) { checkParseJobs(t, byText, near) })
